@@ -1,1 +1,1 @@
-"""Moments of a notebook: what its cells show at each position of its history."""
+"""Moments of a notebook: what differs between two, which edit did it, and the fewest edits that still break a check."""

@@ -1,9 +1,12 @@
 """Where calls come in: answers(calls) goes through a list of calls on one new history."""
 
-from cellmoments.asking import tell_result, tell_results
+from cellmoments.asking import tell_differing, tell_edits, tell_result, tell_results
+from cellmoments.blaming import tell_bisected, tell_blamed, tell_flips, tell_touching
 from cellmoments.cell import Cell
+from cellmoments.counting import count_runs, count_workings
 from cellmoments.editing import change_seed, drop_cell, put_cell
 from cellmoments.history import History
+from cellmoments.leaving import tell_guilty, tell_shrunk
 from cellmoments.reader import Reader
 from cellmoments.remembering import go_back, lose_moment, remember_moment, tell_moments
 
@@ -55,6 +58,71 @@ def call_results(history, reader):
     return tell_results(history, reader.take())
 
 
+def call_differ(history, reader):
+    p = reader.take()
+    q = reader.take()
+    return tell_differing(history, p, q)
+
+
+def call_edits(history, reader):
+    p = reader.take()
+    q = reader.take()
+    return tell_edits(history, p, q)
+
+
+def call_blame(history, reader):
+    number = reader.take()
+    p = reader.take()
+    return tell_blamed(history, number, p)
+
+
+def call_flips(history, reader):
+    number = reader.take()
+    p = reader.take()
+    q = reader.take()
+    return tell_flips(history, number, p, q)
+
+
+def call_bisect(history, reader):
+    number = reader.take()
+    p = reader.take()
+    q = reader.take()
+    return tell_bisected(history, number, p, q)
+
+
+def call_touching(history, reader):
+    number = reader.take()
+    p = reader.take()
+    q = reader.take()
+    return tell_touching(history, number, p, q)
+
+
+def call_guilty(history, reader):
+    number = reader.take()
+    p = reader.take()
+    q = reader.take()
+    return tell_guilty(history, number, p, q)
+
+
+def call_shrink(history, reader):
+    number = reader.take()
+    p = reader.take()
+    q = reader.take()
+    return tell_shrunk(history, number, p, q)
+
+
+def call_workings(history, reader):
+    p = reader.take()
+    q = reader.take()
+    return [count_workings(history, p, q)]
+
+
+def call_runs(history, reader):
+    p = reader.take()
+    q = reader.take()
+    return [count_runs(history, p, q)]
+
+
 # A call's number is its place here.
 CALLS = (
     call_put,
@@ -67,6 +135,16 @@ CALLS = (
     call_now,
     call_result,
     call_results,
+    call_differ,
+    call_edits,
+    call_blame,
+    call_flips,
+    call_bisect,
+    call_touching,
+    call_guilty,
+    call_shrink,
+    call_workings,
+    call_runs,
 )
 
 

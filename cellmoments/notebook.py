@@ -16,3 +16,12 @@ class Notebook:
 
     def has_room_for(self, number):
         return number in self.cells or len(self.cells) < MOST_CELLS
+
+    def with_edits(self, edits):
+        """Another notebook: what these edits make of this one, which stays as it is."""
+        edited = Notebook()
+        edited.cells = dict(self.cells)
+        edited.seed = self.seed
+        for edit in edits:
+            edit.do_on(edited)
+        return edited

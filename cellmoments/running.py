@@ -1,7 +1,5 @@
-"""Goes through the clear cells of a notebook in running order and tells what each cell shows."""
+"""In which order the clear cells are gone through, and what each comes to. A result is a tuple of two numbers."""
 
-from cellmoments.trouble import CLEAR, troubles_in
-from cellmoments.wiring import Wiring
 from cellmoments.working import comes_to, start_of
 
 NO_SUCH_CELL = (0, 0)
@@ -37,19 +35,3 @@ def result_from(working):
     if value is None:
         return REFUSED
     return (SHOWS, value)
-
-
-def results_in(notebook):
-    """Number to result, for every cell of the notebook."""
-    cells = notebook.in_order()
-    wiring = Wiring(cells)
-    troubles = troubles_in(cells, wiring)
-    results = {}
-    for number in troubles:
-        if troubles[number] != CLEAR:
-            results[number] = (TROUBLED, troubles[number])
-    clear = [number for number in troubles if troubles[number] == CLEAR]
-    for number in running_order(clear, wiring.above):
-        working = working_of(notebook.cells[number], notebook.seed, wiring.sources[number], results)
-        results[number] = result_from(working)
-    return results

@@ -147,7 +147,8 @@ class Troubles(TalkCase):
                    [(1, 4, 5), (2, 4, 6), (3, 4, 2), (4, 4, 2)])
 
     def test_behind_from_far(self):
-        self.shows([put(1, 1, 0, 0, [2]), put(2, 2, 0, 0, [3]), put(3, 3, 0, 0, [9])], [(1, 4, 6), (2, 4, 6), (3, 4, 4)])
+        cells = [put(1, 1, 0, 0, [2]), put(2, 2, 0, 0, [3]), put(3, 3, 0, 0, [9])]
+        self.shows(cells, [(1, 4, 6), (2, 4, 6), (3, 4, 4)])
 
     def test_behind_by_one_of_several(self):
         self.shows([put(1, 1, 0, 6), put(2, 2, 0, 0, [9]), put(3, 3, 0, 0, [1, 2])], [(1, 1, 6), (2, 4, 4), (3, 4, 6)])
